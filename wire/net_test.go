@@ -1,6 +1,7 @@
 package wire_test
 
 import (
+	"math"
 	"slices"
 	"testing"
 
@@ -44,23 +45,29 @@ func TestCostErrors(t *testing.T) {
 	for i, x := range []struct {
 		t             api.WireTariff
 		words, copies int
-		want          api.Errno
 	}{
-		{chapter, -1, 1, api.ErrArg},
-		{chapter, 101, 1, api.ErrArg},
-		{chapter, 3, 0, api.ErrArg},
-		{chapter, 3, -1, api.ErrArg},
-		{chapter, 3, 4, api.ErrLong},
-		{chapter, -1, 4, api.ErrLong},
-		{api.WireTariff{Open: -1}, 3, 4, api.ErrLong},
-		{api.WireTariff{Open: -1}, 3, 1, api.ErrArg},
-		{api.WireTariff{Open: 10001}, 3, 1, api.ErrArg},
-		{api.WireTariff{Free: -1}, 3, 1, api.ErrArg},
-		{api.WireTariff{Free: 101}, 3, 1, api.ErrArg},
-		{api.WireTariff{More: -1}, 3, 1, api.ErrArg},
-		{api.WireTariff{More: 10001}, 3, 1, api.ErrArg},
+		{chapter, -1, 1},
+		{chapter, 101, 1},
+		{chapter, math.MinInt, 1},
+		{chapter, math.MaxInt, 1},
+		{chapter, 3, 0},
+		{chapter, 3, -1},
+		{chapter, 3, math.MinInt},
+		// too many copies are a number out of range, not a list that is too long
+		{chapter, 3, 4},
+		{chapter, 3, 100},
+		{chapter, 3, math.MaxInt},
+		{api.WireTariff{}, 1, 4},
+		{chapter, -1, 4},
+		{api.WireTariff{Open: -1}, 3, 4},
+		{api.WireTariff{Open: -1}, 3, 1},
+		{api.WireTariff{Open: 10001}, 3, 1},
+		{api.WireTariff{Free: -1}, 3, 1},
+		{api.WireTariff{Free: 101}, 3, 1},
+		{api.WireTariff{More: -1}, 3, 1},
+		{api.WireTariff{More: 10001}, 3, 1},
 	} {
-		if c, e := wire.Cost(x.t, x.words, x.copies); e != x.want || c != 0 {
+		if c, e := wire.Cost(x.t, x.words, x.copies); e != api.ErrArg || c != 0 {
 			t.Error(i, c, e)
 		}
 	}
